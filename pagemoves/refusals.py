@@ -1,0 +1,21 @@
+"""What a call may be refused for: one error class for each refusal."""
+
+
+class WrongText(ValueError):
+    pass
+
+
+class WrongClass(ValueError):
+    pass
+
+
+class NoSuchBox(ValueError):
+    pass
+
+
+class WrongKind(ValueError):
+    pass
+
+
+class NotNow(ValueError):
+    pass
