@@ -1,7 +1,7 @@
 """The names of boxes."""
 
-from pagemoves.boxes import own_places, place_of
-from pagemoves.visits import rule_of
+from pagemoves.boxes import place_of
+from pagemoves.visits import rule_of, shown_own_places
 
 
 def put_together(names):
@@ -9,8 +9,7 @@ def put_together(names):
 
 
 def kids_name(visit, place):
-    kids = own_places(visit.boxes, place)
-    return put_together([inner_name(visit, kid) for kid in kids if not visit.hidden[kid]])
+    return put_together([inner_name(visit, kid) for kid in shown_own_places(visit, place)])
 
 
 def inner_source(visit, place, source):
@@ -46,9 +45,13 @@ def outer_source(visit, place, source):
     return inner_source(visit, place, source)
 
 
-def full_name(visit, place):
+# The empty text, which is no source, stands for a name that's nothing.
+def name_source(visit, place):
     for source in rule_of(visit, place).sources:
-        name = outer_source(visit, place, source)
-        if name != "":
-            return name
+        if outer_source(visit, place, source) != "":
+            return source
     return ""
+
+
+def full_name(visit, place):
+    return outer_source(visit, place, name_source(visit, place))

@@ -1,43 +1,18 @@
 """The calls on one object, and their answers."""
 
 from pagemoves.boxes import NOWHERE, place_of
+from pagemoves.feeds import Feed
 from pagemoves.focusing import focus_order
-from pagemoves.hearing import ALL, HEADING, LAST_CLASS, heading_level, heard_places, next_place, prev_place
+from pagemoves.grids import LAST_WAY, cell_spot, grid_of, heads_above, heads_before, place_beside, sentence_of
+from pagemoves.hearing import ALL, HEADING, LAST_CLASS, heading_level, heard_places, is_heard, next_place, prev_place
 from pagemoves.names import full_name
 from pagemoves.pagetext import FIRST_PAGE, read_page
-from pagemoves.presses import does_something, press_box
-from pagemoves.refusals import NoSuchBox, NotNow, WrongClass, WrongKind, WrongText
+from pagemoves.presses import can_be_pressed, does_something, places_that_lead_out, press_box
+from pagemoves.refusals import NoSuchBox, NotNow, WrongKind, WrongNumber, WrongText
 from pagemoves.rules import FIRST_RULES, read_rules
-from pagemoves.signs import text_answer, text_of, texts_answer
-from pagemoves.visits import Visit, is_within_reach
-
-
-class Call:
-    def __init__(self, number, of, text):
-        self.number = number
-        self.of = of
-        self.text = text
-
-
-class Feed:
-    def __init__(self, numbers):
-        self.numbers = numbers
-        self.at = 0
-
-    def ended(self):
-        return self.at >= len(self.numbers)
-
-    def take(self):
-        number = self.numbers[self.at]
-        self.at = self.at + 1
-        return number
-
-    def take_row(self):
-        count = self.take()
-        end = self.at + count
-        row = self.numbers[self.at:end]
-        self.at = end
-        return row
+from pagemoves.signs import text_answer, texts_answer
+from pagemoves.spoken import what_is_said
+from pagemoves.visits import Visit, modal_place
 
 
 def answer_page(visit, call):
@@ -54,14 +29,18 @@ def answer_press(visit, call):
     place = place_of(visit.boxes, call.text)
     if not does_something(visit.boxes[place]):
         raise WrongKind()
-    if not is_within_reach(visit, place):
+    if not can_be_pressed(visit, place):
         raise NotNow()
     press_box(visit, place)
     return [visit.hidden.count(True), visit.on.count(True)]
 
 
+def places_answer(visit, places):
+    return texts_answer([visit.boxes[place].ident for place in places])
+
+
 def answer_focus(visit, call):
-    return texts_answer([visit.boxes[place].ident for place in focus_order(visit)])
+    return places_answer(visit, focus_order(visit))
 
 
 def focus_step(visit, call, step):
@@ -81,9 +60,9 @@ def answer_back(visit, call):
     return focus_step(visit, call, -1)
 
 
-def check_class(number):
-    if number < 0 or number > LAST_CLASS:
-        raise WrongClass()
+def check_number(number, greatest):
+    if number < 0 or number > greatest:
+        raise WrongNumber()
 
 
 def found_answer(visit, found):
@@ -93,15 +72,15 @@ def found_answer(visit, found):
 
 
 def answer_next(visit, call):
-    check_class(call.of)
+    check_number(call.choice, LAST_CLASS)
     place = place_of(visit.boxes, call.text)
-    return found_answer(visit, next_place(visit, call.of, place))
+    return found_answer(visit, next_place(visit, call.choice, place))
 
 
 def answer_prev(visit, call):
-    check_class(call.of)
+    check_number(call.choice, LAST_CLASS)
     place = place_of(visit.boxes, call.text)
-    return found_answer(visit, prev_place(visit, call.of, place))
+    return found_answer(visit, prev_place(visit, call.choice, place))
 
 
 def answer_outline(visit, call):
@@ -115,6 +94,60 @@ def answer_outline(visit, call):
     return answer
 
 
+def answer_grid(visit, call):
+    place = place_of(visit.boxes, call.text)
+    if visit.boxes[place].kind != "table":
+        raise WrongKind()
+    grid = grid_of(visit, place)
+    answer = [len(grid)]
+    for row in grid:
+        answer.extend(places_answer(visit, row))
+    return answer
+
+
+def answer_heads(visit, call):
+    spot = cell_spot(visit, call.text)
+    return places_answer(visit, heads_above(visit, spot)) + places_answer(visit, heads_before(visit, spot))
+
+
+def answer_move(visit, call):
+    check_number(call.choice, LAST_WAY)
+    spot = cell_spot(visit, call.text)
+    return found_answer(visit, place_beside(spot, call.choice))
+
+
+def answer_sentence(visit, call):
+    return text_answer(sentence_of(visit, cell_spot(visit, call.text)))
+
+
+def answer_escape(visit, call):
+    modal = modal_place(visit)
+    if modal == NOWHERE:
+        return [0]
+    return found_answer(visit, modal) + places_answer(visit, places_that_lead_out(visit, modal))
+
+
+def answer_here(visit, call):
+    return text_answer(visit.boxes[visit.here].ident) + [1 if is_heard(visit, visit.here) else 0]
+
+
+def go_to(visit, found):
+    if found == NOWHERE:
+        return [0]
+    visit.here = found
+    return found_answer(visit, found) + text_answer(what_is_said(visit, found))
+
+
+def answer_go(visit, call):
+    check_number(call.choice, LAST_CLASS)
+    return go_to(visit, next_place(visit, call.choice, visit.here))
+
+
+def answer_goback(visit, call):
+    check_number(call.choice, LAST_CLASS)
+    return go_to(visit, prev_place(visit, call.choice, visit.here))
+
+
 def answer_size(visit, call):
     heard = heard_places(visit, ALL)
     headings = heard_places(visit, HEADING)
@@ -123,17 +156,10 @@ def answer_size(visit, call):
 
 CALLS = {
     0: answer_page, 1: answer_rules, 2: answer_press, 3: answer_focus, 4: answer_tab,
-    5: answer_back, 6: answer_next, 7: answer_prev, 8: answer_outline, 17: answer_size,
+    5: answer_back, 6: answer_next, 7: answer_prev, 8: answer_outline, 9: answer_grid,
+    10: answer_heads, 11: answer_move, 12: answer_sentence, 13: answer_escape, 14: answer_here,
+    15: answer_go, 16: answer_goback, 17: answer_size,
 }
-CALLS_WITH_NUMBER = (6, 7)
-CALLS_WITH_ROW = (0, 1, 2, 4, 5, 6, 7)
-
-
-def take_call(feed):
-    number = feed.take()
-    of = feed.take() if number in CALLS_WITH_NUMBER else 0
-    text = text_of(feed.take_row()) if number in CALLS_WITH_ROW else ""
-    return Call(number, of, text)
 
 
 def answer_call(visit, call):
@@ -141,7 +167,7 @@ def answer_call(visit, call):
         return CALLS[call.number](visit, call)
     except WrongText:
         return [-1]
-    except WrongClass:
+    except WrongNumber:
         return [-2]
     except NoSuchBox:
         return [-3]
@@ -156,7 +182,7 @@ def answers(calls):
     feed = Feed(calls)
     given = []
     while not feed.ended():
-        answer = answer_call(visit, take_call(feed))
+        answer = answer_call(visit, feed.take_call())
         given.append(len(answer))
         given.extend(answer)
     return given

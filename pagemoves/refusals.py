@@ -5,7 +5,7 @@ class WrongText(ValueError):
     pass
 
 
-class WrongClass(ValueError):
+class WrongNumber(ValueError):
     pass
 
 

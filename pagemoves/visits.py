@@ -1,6 +1,6 @@
 """A visit: a page in a state, the rules, and the box where one is."""
 
-from pagemoves.boxes import NOWHERE, places_around
+from pagemoves.boxes import NOWHERE, own_places, places_around
 
 
 class Visit:
@@ -19,9 +19,16 @@ def rule_of(visit, place):
     return visit.rules[visit.boxes[place].kind]
 
 
+def shown_own_places(visit, place):
+    return [inner for inner in own_places(visit.boxes, place) if not visit.hidden[inner]]
+
+
+def is_visible_with(hidden, boxes, place):
+    return not any([hidden[outer] for outer in [place] + places_around(boxes, place)])
+
+
 def is_visible(visit, place):
-    hiding = [place] + places_around(visit.boxes, place)
-    return not any([visit.hidden[outer] for outer in hiding])
+    return is_visible_with(visit.hidden, visit.boxes, place)
 
 
 def modal_place(visit):

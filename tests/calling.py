@@ -74,8 +74,34 @@ def prev_of(number, box):
     return [7, number] + row(box)
 
 
+def grid(box):
+    return [9] + row(box)
+
+
+def heads(box):
+    return [10] + row(box)
+
+
+def move(way, box):
+    return [11, way] + row(box)
+
+
+def sentence(box):
+    return [12] + row(box)
+
+
+def go(number):
+    return [15, number]
+
+
+def goback(number):
+    return [16, number]
+
+
 FOCUS = [3]
 OUTLINE = [8]
+ESCAPE = [13]
+HERE = [14]
 SIZE = [17]
 
 
@@ -115,6 +141,13 @@ class Answer:
         self.numbers = self.numbers[count:]
         return found
 
+    def one(self):
+        """Whether it's 1, and not 0."""
+        number = self.number()
+        if number not in (0, 1):
+            raise ValueError("neither 0 nor 1")
+        return number == 1
+
     def texts(self):
         return [self.text() for turn in range(self.number())]
 
@@ -137,13 +170,37 @@ def as_texts(numbers):
 def as_found(numbers):
     """None for 0, else the text behind 1."""
     answer = Answer(numbers)
-    first = answer.number()
-    if first not in (0, 1):
-        raise ValueError("neither 0 nor 1")
-    return answer.whole(answer.text() if first else None)
+    return answer.whole(answer.text() if answer.one() else None)
 
 
 def as_outline(numbers):
     answer = Answer(numbers)
     count = answer.number()
     return answer.whole([(answer.number(), answer.text(), answer.text()) for turn in range(count)])
+
+
+def as_grid(numbers):
+    answer = Answer(numbers)
+    return answer.whole([answer.texts() for turn in range(answer.number())])
+
+
+def as_heads(numbers):
+    answer = Answer(numbers)
+    return answer.whole((answer.texts(), answer.texts()))
+
+
+def as_escape(numbers):
+    """None for 0, else the modal and what leads out of it."""
+    answer = Answer(numbers)
+    return answer.whole((answer.text(), answer.texts()) if answer.one() else None)
+
+
+def as_here(numbers):
+    answer = Answer(numbers)
+    return answer.whole((answer.text(), answer.one()))
+
+
+def as_gone(numbers):
+    """None for 0, else the box and what's said of it."""
+    answer = Answer(numbers)
+    return answer.whole((answer.text(), answer.text()) if answer.one() else None)
